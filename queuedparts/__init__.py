@@ -1,0 +1,1 @@
+"""Parts with queues between them, explored whole: see queuedparts.desk."""

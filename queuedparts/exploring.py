@@ -1,0 +1,70 @@
+"""All situations that a play can come to."""
+
+from queuedparts.moves import anybody_held_up, first_situation, moves_in
+from queuedparts.troubles import trouble_in
+
+MOST_SITUATIONS = 1000
+
+
+class Exploration:
+    """What exploring has found so far; once it has ended, what there is to tell of it.
+
+    To each situation of the list belongs its arrival: the place in the list from which it was put
+    there, and the move by which this was done.
+    """
+
+    def __init__(self, first):
+        self.situations = [first]
+        self.arrivals = [None]
+        self.places = {first.mark(): 0}
+        self.too_many = False
+        self.trouble = None
+        self.way = []
+        self.move_total = 0
+        self.most_waiting = 0
+        self.held_up_total = 0
+
+    def put(self, origin, move):
+        """Puts the situation that a move leads to at the list's end, unless it is there already."""
+        mark = move.outcome.mark()
+        if mark not in self.places:
+            self.places[mark] = len(self.situations)
+            self.situations.append(move.outcome)
+            self.arrivals.append((origin, move))
+
+    def tally(self, situation, moves, held_up):
+        self.move_total += len(moves)
+        self.most_waiting = max([self.most_waiting] + [len(messages) for messages in situation.waiting])
+        self.held_up_total += 1 if held_up else 0
+
+    def way_to(self, place):
+        found = []
+        while self.arrivals[place] is not None:
+            found.append(self.arrivals[place][1])
+            place = self.arrivals[place][0]
+        return list(reversed(found))
+
+
+def explore(play, bound):
+    exploration = Exploration(first_situation(play))
+    place = 0
+    while place < len(exploration.situations) and exploration.trouble is None and not exploration.too_many:
+        if len(exploration.situations) > MOST_SITUATIONS:
+            exploration.too_many = True
+        else:
+            look_at(exploration, place, play, bound)
+        place += 1
+    return exploration
+
+
+def look_at(exploration, place, play, bound):
+    situation = exploration.situations[place]
+    moves = moves_in(play, situation, bound)
+    held_up = anybody_held_up(play, situation, bound)
+    exploration.trouble = trouble_in(play, situation, not moves and not held_up)
+    if exploration.trouble is not None:
+        exploration.way = exploration.way_to(place)
+        return
+    exploration.tally(situation, moves, held_up)
+    for move in moves:
+        exploration.put(place, move)

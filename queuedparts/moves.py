@@ -1,0 +1,84 @@
+"""Situations, and the moves that are made in them."""
+
+from queuedparts.parts import RECV, SEND
+from queuedparts.play import fits, label_of
+
+SENT = 1
+RECEIVED = 2
+
+
+class Situation:
+    """For each worker the number of its state; for each queue a tuple of messages, the oldest first."""
+
+    def __init__(self, standing, waiting):
+        self.standing = standing
+        self.waiting = waiting
+
+    def mark(self):
+        """Equal for situations that are the same, and for no others."""
+        return (self.standing, self.waiting)
+
+
+class Move:
+    """Who moves, SENT or RECEIVED, which label, and the situation that it leads to."""
+
+    def __init__(self, worker, deed, label, outcome):
+        self.worker = worker
+        self.deed = deed
+        self.label = label
+        self.outcome = outcome
+
+
+def first_situation(play):
+    return Situation(play.starts, tuple([() for route in play.routes]))
+
+
+def steps_in(play, situation):
+    """At which step each worker stands."""
+    return [role[state] for role, state in zip(play.roles, situation.standing)]
+
+
+def moves_in(play, situation, bound):
+    found = []
+    for worker, step in enumerate(steps_in(play, situation)):
+        if step.kind == SEND and not is_held_up(step, situation, bound):
+            found.extend([sent(worker, step.queue, choice, situation) for choice in step.choices])
+        elif step.kind == RECV and situation.waiting[step.queue]:
+            found.extend([received(worker, step.queue, choice, situation) for choice in takers(step, situation)])
+    return found
+
+
+def is_held_up(step, situation, bound):
+    return step.kind == SEND and len(situation.waiting[step.queue]) >= bound
+
+
+def anybody_held_up(play, situation, bound):
+    return any([is_held_up(step, situation, bound) for step in steps_in(play, situation)])
+
+
+def takers(step, situation):
+    """The one choice that takes the oldest message, or none; something waits."""
+    oldest = situation.waiting[step.queue][0]
+    return [choice for choice in step.choices if fits(oldest, choice.message)]
+
+
+def sent(worker, queue, choice, situation):
+    waiting = situation.waiting[queue] + (choice.message,)
+    return move_to(worker, SENT, queue, choice, situation, waiting)
+
+
+def received(worker, queue, choice, situation):
+    waiting = situation.waiting[queue][1:]
+    return move_to(worker, RECEIVED, queue, choice, situation, waiting)
+
+
+def move_to(worker, deed, queue, choice, situation, waiting):
+    outcome = Situation(
+        with_changed(situation.standing, worker, choice.goal),
+        with_changed(situation.waiting, queue, waiting),
+    )
+    return Move(worker, deed, label_of(choice.message), outcome)
+
+
+def with_changed(row, place, thing):
+    return row[:place] + (thing,) + row[place + 1:]
