@@ -16,7 +16,7 @@ class Exploration:
     def __init__(self, first):
         self.situations = [first]
         self.arrivals = [None]
-        self.places = {first.mark(): 0}
+        self.known = {first.mark(): True}
         self.too_many = False
         self.trouble = None
         self.way = []
@@ -27,8 +27,8 @@ class Exploration:
     def put(self, origin, move):
         """Puts the situation that a move leads to at the list's end, unless it is there already."""
         mark = move.outcome.mark()
-        if mark not in self.places:
-            self.places[mark] = len(self.situations)
+        if mark not in self.known:
+            self.known[mark] = True
             self.situations.append(move.outcome)
             self.arrivals.append((origin, move))
 
