@@ -5,6 +5,8 @@ from queuedparts.faults import Fault
 from queuedparts.oneform import one_form
 from queuedparts.play import play_of
 from queuedparts.reading import part_of
+from queuedparts.telling import moves_told, queues_told, told
+from queuedparts.walking import walk
 
 MOST_WORKERS = 8
 GREATEST_BOUND = 8
@@ -12,19 +14,21 @@ GREATEST_BOUND = 8
 NOT_THERE = -2
 NO_ROOM = -3
 NAME_TAKEN = -4
-NO_TROUBLE = -5
+NONE_SUCH = -5
 TOO_MANY = -6
 
 
 class Company:
-    """The parts of the hired workers, in order."""
+    """The parts of the hired workers, in order, and the play that they make together."""
 
     def __init__(self):
         self.parts = []
+        self.play = play_of([])
         self.explored = {}
 
     def hire(self, part):
         self.parts.append(part)
+        self.play = play_of(self.parts)
         self.explored = {}
 
     def employs(self, name):
@@ -33,13 +37,8 @@ class Company:
     def exploration(self, bound):
         # A line may ask for the same bound hundreds of times between two hires.
         if bound not in self.explored:
-            self.explored[bound] = explore(play_of(self.parts), bound)
+            self.explored[bound] = explore(self.play, bound)
         return self.explored[bound]
-
-
-def told(text):
-    """A text with its length."""
-    return [len(text)] + [ord(letter) for letter in text]
 
 
 def is_bound(k):
@@ -83,9 +82,32 @@ def answer_trouble(company, k):
     if found.too_many:
         return [TOO_MANY]
     if found.trouble is None:
-        return [NO_TROUBLE]
+        return [NONE_SUCH]
     trouble = found.trouble
-    answer = [trouble.number, trouble.first, trouble.second] + told(trouble.label) + [len(found.way)]
-    for move in found.way:
-        answer.extend([move.worker, move.deed] + told(move.label))
-    return answer
+    return [trouble.number, trouble.first, trouble.second] + told(trouble.label) + moves_told(found.way)
+
+
+def answer_enough(company):
+    for bound in range(1, GREATEST_BOUND + 1):
+        found = company.exploration(bound)
+        if found.trouble is not None or found.too_many:
+            return [NONE_SUCH]
+        if found.held_up_total == 0:
+            return [bound]
+    return [NONE_SUCH]
+
+
+def answer_walk(company, k, numbers):
+    if not is_bound(k):
+        return [NOT_THERE]
+    walked = walk(company.play, k, numbers)
+    situation = walked.view.situation
+    return [walked.made] + list(situation.standing) + queues_told(company.play, situation)
+
+
+def answer_after(company, k, numbers):
+    if not is_bound(k):
+        return [NOT_THERE]
+    view = walk(company.play, k, numbers).view
+    number = 0 if view.trouble is None else view.trouble.number
+    return [number] + moves_told(view.moves)

@@ -1,11 +1,15 @@
 """The desk takes a list of calls, one behind another, on one new company."""
 
-from queuedparts.company import Company, answer_explore, answer_hire, answer_shown, answer_trouble
+from queuedparts.company import Company, answer_after, answer_enough, answer_explore, answer_hire
+from queuedparts.company import answer_shown, answer_trouble, answer_walk
 
 HIRE = 0
 SHOWN = 1
 EXPLORE = 2
 TROUBLE = 3
+ENOUGH = 4
+WALK = 5
+AFTER = 6
 
 
 def answers(calls):
@@ -23,8 +27,13 @@ def answers(calls):
 
 
 def call_end(calls, place):
+    """Where the next call begins."""
     if calls[place] == HIRE:
         return place + 2 + calls[place + 1]
+    if calls[place] == ENOUGH:
+        return place + 1
+    if calls[place] in (WALK, AFTER):
+        return place + 3 + calls[place + 2]
     return place + 2
 
 
@@ -37,4 +46,8 @@ def answer_to(company, call):
         return answer_explore(company, call[1])
     if call[0] == TROUBLE:
         return answer_trouble(company, call[1])
-    raise NotImplementedError("no such call yet")
+    if call[0] == ENOUGH:
+        return answer_enough(company)
+    if call[0] == WALK:
+        return answer_walk(company, call[1], call[3:])
+    return answer_after(company, call[1], call[3:])

@@ -1,7 +1,7 @@
 """All situations that a play can come to."""
 
-from queuedparts.moves import anybody_held_up, first_situation, moves_in
-from queuedparts.troubles import trouble_in
+from queuedparts.moves import first_situation, outcome_of
+from queuedparts.views import view_of
 
 MOST_SITUATIONS = 1000
 
@@ -26,16 +26,17 @@ class Exploration:
 
     def put(self, origin, move):
         """Puts the situation that a move leads to at the list's end, unless it is there already."""
-        mark = move.outcome.mark()
+        outcome = outcome_of(self.situations[origin], move)
+        mark = outcome.mark()
         if mark not in self.known:
             self.known[mark] = True
-            self.situations.append(move.outcome)
+            self.situations.append(outcome)
             self.arrivals.append((origin, move))
 
-    def tally(self, situation, moves, held_up):
-        self.move_total += len(moves)
-        self.most_waiting = max([self.most_waiting] + [len(messages) for messages in situation.waiting])
-        self.held_up_total += 1 if held_up else 0
+    def tally(self, view):
+        self.move_total += len(view.moves)
+        self.most_waiting = max([self.most_waiting] + [len(messages) for messages in view.situation.waiting])
+        self.held_up_total += 1 if view.held_up else 0
 
     def way_to(self, place):
         found = []
@@ -58,13 +59,11 @@ def explore(play, bound):
 
 
 def look_at(exploration, place, play, bound):
-    situation = exploration.situations[place]
-    moves = moves_in(play, situation, bound)
-    held_up = anybody_held_up(play, situation, bound)
-    exploration.trouble = trouble_in(play, situation, not moves and not held_up)
-    if exploration.trouble is not None:
+    view = view_of(play, exploration.situations[place], bound)
+    exploration.trouble = view.trouble
+    if view.trouble is not None:
         exploration.way = exploration.way_to(place)
         return
-    exploration.tally(situation, moves, held_up)
-    for move in moves:
+    exploration.tally(view)
+    for move in view.moves:
         exploration.put(place, move)

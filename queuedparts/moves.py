@@ -1,7 +1,7 @@
 """Situations, and the moves that are made in them."""
 
 from queuedparts.parts import RECV, SEND
-from queuedparts.play import fits, label_of
+from queuedparts.play import fits
 
 SENT = 1
 RECEIVED = 2
@@ -20,13 +20,16 @@ class Situation:
 
 
 class Move:
-    """Who moves, SENT or RECEIVED, which label, and the situation that it leads to."""
+    """Who moves, SENT or RECEIVED, with which queue, and by which choice of the worker's step.
 
-    def __init__(self, worker, deed, label, outcome):
+    The situation that it leads to is not kept: on a walk only one of many moves is made.
+    """
+
+    def __init__(self, worker, deed, queue, choice):
         self.worker = worker
         self.deed = deed
-        self.label = label
-        self.outcome = outcome
+        self.queue = queue
+        self.choice = choice
 
 
 def first_situation(play):
@@ -42,9 +45,9 @@ def moves_in(play, situation, bound):
     found = []
     for worker, step in enumerate(steps_in(play, situation)):
         if step.kind == SEND and not is_held_up(step, situation, bound):
-            found.extend([sent(worker, step.queue, choice, situation) for choice in step.choices])
+            found.extend([Move(worker, SENT, step.queue, choice) for choice in step.choices])
         elif step.kind == RECV and situation.waiting[step.queue]:
-            found.extend([received(worker, step.queue, choice, situation) for choice in takers(step, situation)])
+            found.extend([Move(worker, RECEIVED, step.queue, choice) for choice in takers(step, situation)])
     return found
 
 
@@ -62,22 +65,19 @@ def takers(step, situation):
     return [choice for choice in step.choices if fits(oldest, choice.message)]
 
 
-def sent(worker, queue, choice, situation):
-    waiting = situation.waiting[queue] + (choice.message,)
-    return move_to(worker, SENT, queue, choice, situation, waiting)
-
-
-def received(worker, queue, choice, situation):
-    waiting = situation.waiting[queue][1:]
-    return move_to(worker, RECEIVED, queue, choice, situation, waiting)
-
-
-def move_to(worker, deed, queue, choice, situation, waiting):
-    outcome = Situation(
-        with_changed(situation.standing, worker, choice.goal),
-        with_changed(situation.waiting, queue, waiting),
+def outcome_of(situation, move):
+    """The situation that a move leads to."""
+    messages = changed_queue(situation.waiting[move.queue], move)
+    return Situation(
+        with_changed(situation.standing, move.worker, move.choice.goal),
+        with_changed(situation.waiting, move.queue, messages),
     )
-    return Move(worker, deed, label_of(choice.message), outcome)
+
+
+def changed_queue(messages, move):
+    if move.deed == SENT:
+        return messages + (move.choice.message,)
+    return messages[1:]
 
 
 def with_changed(row, place, thing):

@@ -34,9 +34,24 @@ def trouble(bound):
     return [3, bound]
 
 
+def enough():
+    return [4]
+
+
+def walk(bound, numbers=()):
+    return [5, bound, len(numbers)] + list(numbers)
+
+
+def after(bound, numbers=()):
+    return [6, bound, len(numbers)] + list(numbers)
+
+
 def ask(*calls):
     """The answers to the calls, a list each."""
-    given = answers([number for call in calls for number in call])
+    line = [number for call in calls for number in call]
+    if len(calls) > 400 or len(line) > 16000:
+        raise AssertionError("no such line is handed in")
+    given = answers(line)
     found = []
     place = 0
     while place < len(given):
@@ -68,6 +83,72 @@ def way(*moves):
     for move in moves:
         told += [int(move[0]), 1 if move[1] == "!" else 2] + label(move[2:])
     return told
+
+
+def waits(*rows):
+    """Queues as walk answers them, of rows like "A>B a b": from A to B wait a, the oldest, and b."""
+    told = [len(rows)]
+    for row in rows:
+        seats, *names = row.split()
+        x, y = seats.split(">")
+        told += label(x) + label(y) + [len(names)]
+        for name in names:
+            told += label(name)
+    return told
+
+
+class Answer:
+    """Goes along the numbers of one answer."""
+
+    def __init__(self, numbers):
+        self.numbers = numbers
+        self.at = 0
+
+    def number(self):
+        self.at += 1
+        return self.numbers[self.at - 1]
+
+    def text(self):
+        length = self.number()
+        self.at += length
+        return bytes(self.numbers[self.at - length:self.at]).decode()
+
+    def move(self):
+        return self.number(), self.number(), self.text()
+
+    def row(self, read):
+        return [read() for count in range(self.number())]
+
+    def queue(self):
+        return self.text(), self.text(), self.row(self.text)
+
+    def end(self):
+        if self.at != len(self.numbers):
+            raise AssertionError(f"{len(self.numbers) - self.at} numbers too many")
+
+
+def read_walk(numbers, workers):
+    """(how many moves were made, the workers' states, the queues as (x, y, labels))."""
+    given = Answer(numbers)
+    found = given.number(), [given.number() for worker in range(workers)], given.row(given.queue)
+    given.end()
+    return found
+
+
+def read_after(numbers):
+    """(trouble's number or 0, the moves as (worker, 1 or 2, label))."""
+    given = Answer(numbers)
+    found = given.number(), given.row(given.move)
+    given.end()
+    return found
+
+
+def read_trouble(numbers):
+    """(number, worker, worker, label, the way's moves)."""
+    given = Answer(numbers)
+    found = given.number(), given.number(), given.number(), given.text(), given.row(given.move)
+    given.end()
+    return found
 
 
 def part(worker, *states):
@@ -220,6 +301,38 @@ class Second:
                     seen.add(goal)
                     listed.append((goal, path + [(worker, deed, name)]))
         return [1, len(listed), moves_made, longest, held], [-5]
+
+    def enough(self):
+        for bound in range(1, 9):
+            found = self.explore(bound)[0]
+            if found[0] != 1:
+                return [-5]
+            if found[4] == 0:
+                return [bound]
+        return [-5]
+
+    def walk(self, bound, numbers):
+        """(how many moves were made, the situation)."""
+        situation, made = self.first(), 0
+        for number in numbers:
+            moves = self.moves(situation, bound)
+            if self.trouble(situation, bound) or not moves:
+                break
+            situation = moves[number % len(moves)][3]
+            made += 1
+        return made, situation
+
+    def walk_answer(self, bound, numbers):
+        made, situation = self.walk(bound, numbers)
+        names = [[state[0] for state in told[2]] for told in self.parts]
+        told = [made] + [row.index(name) for row, name in zip(names, situation[0])]
+        return told + waits(*[f"{x}>{y} " + " ".join(m[0] for m in queue) for (x, y), queue in situation[1]])
+
+    def after_answer(self, bound, numbers):
+        situation = self.walk(bound, numbers)[1]
+        met = self.trouble(situation, bound)
+        moves = [f"{worker}{'!?'[deed - 1]}{name}" for worker, deed, name, goal in self.moves(situation, bound)]
+        return [met[0] if met else 0] + way(*moves)
 
 
 class Numbers:
